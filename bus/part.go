@@ -18,14 +18,6 @@ const (
 // widest is the most bytes of an access.
 const widest = 8
 
-// pieces: where the parts lie. Where memory does it says itself; its piece is empty here, as None's is.
-var pieces = [...]api.Span{
-	TimePart: {At: api.ClintBase, Len: api.ClintSize},
-	IntPart:  {At: api.PlicBase, Len: api.PlicSize},
-	BlkPart:  {At: api.BlkBase, Len: api.DevSize},
-	TTYPart:  {At: api.ConBase, Len: api.DevSize},
-}
-
 // Part: where n bytes at an address lead, and at which place of it; None: nowhere, or to no one part.
 func (b *Bus) Part(at uint64, n int) (int, uint64) {
 	// The number of bytes comes first: one below 0 would be a great one as a word.
@@ -35,12 +27,27 @@ func (b *Bus) Part(at uint64, n int) (int, uint64) {
 	if b.Has(at, uint64(n)) {
 		return Memory, at
 	}
-	for part, p := range pieces {
-		if word.Within(at, uint64(n), p.At, p.Len) {
+	for part := TimePart; part <= TTYPart; part++ {
+		if p := pieceOf(part); word.Within(at, uint64(n), p.At, p.Len) {
 			return part, at - p.At
 		}
 	}
 	return None, 0
+}
+
+// pieceOf: where a part lies that stands where it does whatever the machine is; memory tells of itself.
+func pieceOf(part int) api.Span {
+	switch part {
+	case TimePart:
+		return api.Span{At: api.ClintBase, Len: api.ClintSize}
+	case IntPart:
+		return api.Span{At: api.PlicBase, Len: api.PlicSize}
+	case BlkPart:
+		return api.Span{At: api.BlkBase, Len: api.DevSize}
+	case TTYPart:
+		return api.Span{At: api.ConBase, Len: api.DevSize}
+	}
+	return api.Span{}
 }
 
 // Name: a part's; "" of none.

@@ -1,8 +1,6 @@
 package image
 
-import (
-	"vireo/word"
-)
+import "vireo/word"
 
 // Where the fields of a head stand, and those of a part's entry.
 const (

@@ -6,9 +6,6 @@ import (
 	"vireo/word"
 )
 
-// order: the interrupts, those ahead that are taken first.
-var order = [...]int{api.OuterMachine, api.SoftMachine, api.TimerMachine, api.OuterSuper, api.SoftSuper, api.TimerSuper}
-
 // Next: the interrupt that is to be taken now; false: none is.
 func Next(f *csr.File) (api.Trap, bool) {
 	ready := f.Pending() & f.Mie
@@ -25,7 +22,7 @@ func Next(f *csr.File) (api.Trap, bool) {
 
 // first: of these interrupts the one that is taken ahead of the others; false: there is none.
 func first(ready uint64) (api.Trap, bool) {
-	for _, cause := range order {
+	for _, cause := range [...]int{api.OuterMachine, api.SoftMachine, api.TimerMachine, api.OuterSuper, api.SoftSuper, api.TimerSuper} {
 		if word.Bit(ready, cause) {
 			return api.Trap{Cause: cause, Interrupt: true}, true
 		}
